@@ -1,0 +1,1 @@
+"""Shadowrow: sets of whole numbers, and how many of each size a family can have."""
