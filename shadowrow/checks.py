@@ -1,4 +1,4 @@
-"""What is a number, what is a size, and what is a set."""
+"""What is a number, what is a size, what is a set, and what is a row."""
 
 GREATEST_SIZE = 20
 
@@ -15,14 +15,24 @@ def is_size(thing, least, greatest):
     return is_number(thing) and least <= thing <= greatest
 
 
+def is_list_of_numbers(thing):
+    """Tell whether a thing is a list of at most 20 whole numbers, 0 or more."""
+    if type(thing) is not list or len(thing) > GREATEST_SIZE:
+        return False
+    return all([is_number(each) for each in thing])
+
+
 def is_falling(numbers):
     """Tell whether each number is less than the one ahead of it."""
     return all([ahead > behind for ahead, behind in zip(numbers, numbers[1:])])
 
 
 def is_set(thing):
-    """Tell whether a thing is a list of at most 20 numbers, falling."""
-    if type(thing) is not list or len(thing) > GREATEST_SIZE:
-        return False
+    """Tell whether a thing is a set: a short list of numbers, falling."""
     # The numbers are compared only once all of them are known to be numbers.
-    return all([is_number(each) for each in thing]) and is_falling(thing)
+    return is_list_of_numbers(thing) and is_falling(thing)
+
+
+def is_row(thing):
+    """Tell whether a thing is a row: a short list of counts, one for each size from 1 on."""
+    return is_list_of_numbers(thing)

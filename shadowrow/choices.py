@@ -1,4 +1,4 @@
-"""How many numbers it takes to choose so many sets from them, at once."""
+"""Which numbers the set of a number has, at once."""
 
 from math import comb, factorial
 
@@ -44,3 +44,13 @@ def greatest_first(size, number):
     while comb(first + 1, size) <= number:
         first = first + 1
     return first
+
+
+def numbers_of_set(size, number):
+    """Tell the numbers, falling, of the set of that size that has that number."""
+    numbers = []
+    for left in range(size, 0, -1):
+        first = greatest_first(left, number)
+        numbers.append(first)
+        number = number - comb(first, left)
+    return numbers

@@ -3,7 +3,7 @@
 from math import comb
 
 from shadowrow.checks import GREATEST_SIZE, is_number, is_set, is_size
-from shadowrow.choices import greatest_first
+from shadowrow.choices import numbers_of_set
 from shadowrow.errors import BadNumber, BadSet, BadSize
 
 
@@ -33,12 +33,7 @@ def set_of(size, number):
         raise BadNumber("a set's number is a whole number, 0 or more")
     if size == 0 and number > 0:
         raise BadNumber("the one set of size 0 has number 0")
-    some = []
-    for left in range(size, 0, -1):
-        first = greatest_first(left, number)
-        some.append(first)
-        number = number - comb(first, left)
-    return some
+    return numbers_of_set(size, number)
 
 
 def beneath(some):

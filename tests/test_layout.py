@@ -7,8 +7,20 @@ from importlib import import_module
 from pathlib import Path
 
 PACKAGE = Path(__file__).resolve().parent.parent / "shadowrow"
-CLASSES = {"errors": ["SetsError", "BadSet", "BadSize", "BadNumber", "BadRow"]}
-FUNCTIONS = {"sets": {"number_of": ["some"], "set_of": ["size", "number"], "beneath": ["some"]}}
+CLASSES = {
+    "errors": ["SetsError", "BadSet", "BadSize", "BadNumber", "BadRow"],
+    "answers": ["Answer", "Can", "Barred"],
+}
+FUNCTIONS = {
+    "sets": {"number_of": ["some"], "set_of": ["size", "number"], "beneath": ["some"]},
+    "counts": {"under": ["size", "many"], "over": ["size", "many"]},
+    "rows": {"told": ["row"], "has": ["row", "some"], "most": ["row"]},
+}
+# The methods that each class defines itself, with their arguments.
+METHODS = {
+    "Can": {"shows": ["self", "row"]},
+    "Barred": {"__init__": ["self", "size", "most"], "shows": ["self", "row"]},
+}
 
 
 def files():
@@ -33,6 +45,13 @@ class InterfaceTest(unittest.TestCase):
                 self.assertIn(name, defined(module, ast.FunctionDef))
                 function = getattr(import_module(f"shadowrow.{module}"), name)
                 self.assertEqual(list(inspect.signature(function).parameters), arguments)
+
+    def test_methods_are_defined_in_their_classes_with_their_arguments(self):
+        answers = import_module("shadowrow.answers")
+        for name, methods in METHODS.items():
+            for method, arguments in methods.items():
+                own = vars(getattr(answers, name))[method]
+                self.assertEqual(list(inspect.signature(own).parameters), arguments)
 
 
 class FilesTest(unittest.TestCase):

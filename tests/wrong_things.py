@@ -72,3 +72,14 @@ def no_sets():
     endless = []
     endless.append(endless)
     return no_lists() + lists + [endless]
+
+
+def no_rows():
+    """Things that are no rows, of every kind."""
+    lists = [[each] for each in no_whole_numbers() + negative_numbers()]
+    lists += [[5, each] for each in no_whole_numbers() + negative_numbers()]
+    lists += [[each, 0] for each in no_whole_numbers() + negative_numbers()]
+    lists += [[0] * 21, [1] + [0] * 20, [30] * 21, [0] * 400]
+    endless = []
+    endless.append(endless)
+    return no_lists() + lists + [endless]
